@@ -1,0 +1,226 @@
+"""Graphs, drawings and wrong things for the tests, made without the package."""
+
+from functools import cmp_to_key
+from itertools import combinations
+from random import Random
+
+from tests import slow
+
+
+def random_graph(seed, n, part):
+    dice = Random(seed)
+    return slow.made(n, [pair for pair in combinations(range(n), 2) if dice.random() < part])
+
+
+def many_graphs(most, many, seed=0):
+    """Graphs of up to most vertices, sparse and dense."""
+    dice = Random(seed)
+    return [random_graph(dice.random(), dice.randint(0, most), dice.choice((0.15, 0.3, 0.5, 0.7, 0.9)))
+            for _ in range(many)]
+
+
+def small_graphs(most):
+    """All graphs of up to most vertices, in all numberings."""
+    for n in range(most + 1):
+        pairs = list(combinations(range(n), 2))
+        for bits in range(2 ** len(pairs)):
+            yield slow.made(n, [pair for k, pair in enumerate(pairs) if bits >> k & 1])
+
+
+def complete(n):
+    return slow.made(n, combinations(range(n), 2))
+
+
+def complete_three():
+    return slow.made(6, [(a, b) for a in range(3) for b in range(3, 6)])
+
+
+def ring_graph(n):
+    return slow.made(n, [(k, (k + 1) % n) for k in range(n)])
+
+
+# Drawings by points in the plane and straight lines that do not cross.
+
+def cross(p, q, r):
+    return (q[0] - p[0]) * (r[1] - p[1]) - (q[1] - p[1]) * (r[0] - p[0])
+
+
+def do_cross(p, q, r, s):
+    return cross(p, q, r) * cross(p, q, s) < 0 and cross(r, s, p) * cross(r, s, q) < 0
+
+
+def points(dice, n, fenced):
+    """n points, no three on a line; with a fence the first three have all others between them."""
+    found = [(-7000, -5000), (7003, -5011), (17, 9001)] if fenced else []
+    while len(found) < n:
+        p = (dice.randint(-1000, 1000), dice.randint(-1000, 1000))
+        if p not in found and all(cross(p, q, r) for q, r in combinations(found, 2)):
+            found.append(p)
+    return found
+
+
+def half(v):
+    return 0 if (v[1], v[0]) > (0, 0) else 1
+
+
+def clockwise(p, spots):
+    """The order of these (name, spot) round p, against the sun."""
+    def compare(one, two):
+        v = (one[1][0] - p[0], one[1][1] - p[1])
+        w = (two[1][0] - p[0], two[1][1] - p[1])
+        return half(v) - half(w) or -cross((0, 0), v, w)
+    return [name for name, _ in sorted(spots, key=cmp_to_key(compare))][::-1]
+
+
+class Map:
+    """Points, the edges between them, and the turns clockwise: the faces lie left of their darts."""
+
+    def __init__(self, seed, n, most, fenced=False):
+        dice = Random(seed)
+        self.spots = points(dice, n, fenced)
+        pairs = list(combinations(range(n), 2))
+        dice.shuffle(pairs)
+        self.pairs = []
+        for a, b in pairs:
+            if len(self.pairs) < most and not any(
+                    do_cross(self.spots[a], self.spots[b], self.spots[c], self.spots[d]) for c, d in self.pairs):
+                self.pairs.append((a, b))
+        self.graph = slow.made(n, self.pairs)
+        self.turns = tuple(
+            slow.from_least(tuple(clockwise(self.spots[a], [(b, self.spots[b]) for b in self.graph[a]])))
+            for a in range(n))
+
+    def area(self, cycle):
+        """Twice the area, above 0 if the cycle goes against the clock."""
+        return sum(self.spots[a][0] * self.spots[b][1] - self.spots[b][0] * self.spots[a][1]
+                   for a, b in slow.darts(cycle))
+
+    def outside(self):
+        """The face round the whole drawing, of one piece."""
+        return [own for own in slow.faces(self.turns) if self.area(own) <= 0][0]
+
+    def holds(self, cycle, spot):
+        """Whether this spot, told in halves, lies within the cycle."""
+        within = False
+        for a, b in slow.darts(cycle):
+            (x1, y1), (x2, y2) = [(2 * self.spots[c][0], 2 * self.spots[c][1]) for c in (a, b)]
+            if (y1 > spot[1]) != (y2 > spot[1]):
+                side = (x2 - x1) * (spot[1] - y1) - (spot[0] - x1) * (y2 - y1)
+                if (side > 0) == (y2 > y1):
+                    within = not within
+        return within
+
+    def is_left(self, cycle, spot):
+        return self.holds(cycle, spot) == (self.area(cycle) > 0)
+
+
+def maps(many, least, most, seed=0, fenced=False, full=False):
+    dice = Random(seed)
+    found = []
+    for _ in range(many):
+        n = dice.randint(least, most)
+        found.append(Map(dice.random(), n, 3 * n if full else dice.randint(0, 3 * n), fenced))
+    return found
+
+
+def plane_maps(many, least, most, seed=0):
+    """Drawings of one piece."""
+    return [own for own in maps(many, least, most, seed) if len(slow.pieces(own.graph)) == 1]
+
+
+def firm_maps(many, least, most, seed=0):
+    """Drawings of connectivity 3 or more; some are thinned out as far as that allows."""
+    found = []
+    for k, own in enumerate(maps(many, least, most, seed, True, True)):
+        turns = own.turns
+        for edge in sorted(own.pairs)[:4 * (k % 4)]:
+            thin = dropped(turns, edge)
+            if slow.firm(slow.graph_in(thin)):
+                turns = thin
+        found.append(turns)
+    return found
+
+
+def dropped(turns, edge):
+    """The turns without this edge."""
+    return slow.begun(tuple(tuple(b for b in row if {a, b} != set(edge)) for a, row in enumerate(turns)))
+
+
+def discs(many, least, most, seed=0):
+    """Discs, firm and less firm, each face in turn as the rim, begun anywhere."""
+    dice = Random(seed)
+    found = []
+    for own in maps(many, least, most, seed):
+        if slow.whole(own.graph) and len(own.graph) > 2:
+            rims = slow.faces(own.turns)
+            found.extend((own.turns, shifted(rim, dice.randrange(9))) for rim in rims)
+    for turns in firm_maps(many // 3, max(4, least), most, seed):
+        found.extend((turns, shifted(rim, dice.randrange(9))) for rim in slow.faces(turns))
+    return found
+
+
+def shifted(row, k):
+    k = k % len(row) if row else 0
+    return row[k:] + row[:k]
+
+
+# Wrong things.
+
+OTHERS = (None, True, False, -1, 0, 1, 3, 99, 10 ** 30, "", "0", "five", (), [], (0,), (0, 1), [0, 1],
+          ((0, 1),), ((),), (((((((((((0,),),),),),),),),),),), [[[[[[[[[[[0]]]]]]]]]]], ("a", None, (True,)),
+          (None, None), ((), ()), ((1,), (0,)), ((1,), [0]), ((True,), (False,)), ((True,), (0,)))
+
+
+def places(thing, path=()):
+    """The places of thing and of all that it holds."""
+    yield path, thing
+    if type(thing) in (tuple, list):
+        for k, own in enumerate(thing):
+            yield from places(own, path + (k,))
+
+
+def changed(thing, path, new):
+    """thing with new in this place."""
+    if not path:
+        return new
+    rows = list(thing)
+    rows[path[0]] = changed(rows[path[0]], path[1:], new)
+    return type(thing)(rows)
+
+
+def changes_of(own):
+    """What may stand in the place of own."""
+    if type(own) is tuple:
+        yield list(own)
+        yield own[:-1]
+        yield own[1:]
+        yield own + own[-1:]
+        yield own + own[:1]
+        yield own + (0,)
+        yield own[::-1]
+        yield own[1:] + own[:1]
+        yield own[1:2] + own[:1] + own[2:]
+        yield (own,)
+        yield tuple(sorted(own, key=repr))
+    if type(own) is int:
+        yield from (own == 1, own != 0, own + 1, own - 1, -own, -1 - own, str(own), None, (own,), own + 100)
+    if type(own) is str:
+        yield from ("", own + " ", own.upper(), (own,), None, 5)
+
+
+def wrong(thing, most=400, seed=0):
+    """thing changed in one place, most of these at most, each tuple a list in its turn, and quite other things."""
+    found = []
+    lists = []
+    for path, own in places(thing):
+        found.extend(changed(thing, path, new) for new in changes_of(own))
+        if type(own) is tuple:
+            lists.append(changed(thing, path, list(own)))
+    if len(found) > most:
+        found = Random(seed).sample(found, most)
+    return found + lists + list(OTHERS)
+
+
+def begun_elsewhere(turns, k):
+    """The same turns, each begun elsewhere."""
+    return tuple(shifted(row, k + a) for a, row in enumerate(turns))

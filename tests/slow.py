@@ -1,0 +1,336 @@
+"""The tests' own slow reckoning: nothing here calls the package."""
+
+from itertools import combinations, permutations, product
+
+
+# Kinds of values.
+
+def number(x):
+    return type(x) is int and x >= 0
+
+
+def numbers(x):
+    return type(x) is tuple and all(number(a) for a in x)
+
+
+def a_set(x):
+    return numbers(x) and all(a < b for a, b in zip(x, x[1:]))
+
+
+# Graphs.
+
+def is_graph(x):
+    if type(x) is not tuple or not all(a_set(row) for row in x):
+        return False
+    n = len(x)
+    for a in range(n):
+        for b in x[a]:
+            if b >= n or b == a or a not in x[b]:
+                return False
+    return True
+
+
+def edges(graph):
+    return {(a, b) for a in range(len(graph)) for b in graph[a] if a < b}
+
+
+def made(n, pairs):
+    rows = [set() for _ in range(n)]
+    for a, b in pairs:
+        rows[a].add(b)
+        rows[b].add(a)
+    return tuple(tuple(sorted(row)) for row in rows)
+
+
+def pieces(graph, gone=()):
+    """By labels: the least label goes over each edge until nothing changes."""
+    label = {a: a for a in range(len(graph)) if a not in gone}
+    changed = True
+    while changed:
+        changed = False
+        for a in label:
+            for b in graph[a]:
+                if b in label and label[b] < label[a]:
+                    label[a] = label[b]
+                    changed = True
+    return tuple(sorted(tuple(sorted(a for a in label if label[a] == own)) for own in set(label.values())))
+
+
+def separators(graph, many):
+    return tuple(own for own in combinations(range(len(graph)), many) if len(pieces(graph, own)) > 1)
+
+
+def connectivity(graph):
+    best = 0
+    for k in range(5):
+        if len(graph) > k and not any(separators(graph, m) for m in range(k)):
+            best = k
+    return best
+
+
+def firm(graph):
+    return len(graph) > 3 and not any(separators(graph, m) for m in range(3))
+
+
+def taken(graph, members):
+    place = {a: k for k, a in enumerate(members)}
+    return tuple(tuple(sorted(place[b] for b in graph[a] if b in place)) for a in members)
+
+
+def whole(graph):
+    """One piece, and still one less any one vertex."""
+    return len(pieces(graph)) == 1 and all(len(pieces(graph, (a,))) < 2 for a in range(len(graph)))
+
+
+def blocks(graph):
+    """All sets of two vertices or more that hold together less any one, of these the greatest."""
+    n = len(graph)
+    good = []
+    for many in range(n, 1, -1):
+        for own in combinations(range(n), many):
+            if any(set(own) <= set(other) for other in good):
+                continue
+            if whole(taken(graph, own)):
+                good.append(own)
+    return tuple(sorted(good))
+
+
+def joined(graph, edge):
+    a, b = edge
+    names = [c if c < b else c - 1 for c in range(len(graph))]
+    names[b] = a
+    pairs = {(names[c], names[d]) for c, d in edges(graph) if names[c] != names[d]}
+    return made(len(graph) - 1, pairs)
+
+
+def all_paths(graph, a, b, gone=()):
+    """All simple paths from a to b."""
+    found = []
+    trail = [(a,)] if a not in gone and b not in gone else []
+    while trail:
+        path = trail.pop()
+        if path[-1] == b:
+            found.append(path)
+            continue
+        trail.extend(path + (c,) for c in graph[path[-1]] if c not in path and c not in gone)
+    return found
+
+
+def is_path(graph, x):
+    if not numbers(x) or not x or len(set(x)) < len(x):
+        return False
+    return all(a < len(graph) for a in x) and all(b in graph[a] for a, b in zip(x, x[1:]))
+
+
+def is_cycle(graph, x):
+    return is_path(graph, x) and len(x) >= 3 and x[-1] in graph[x[0]]
+
+
+def cycles(graph):
+    """Each cycle once: begun with its least vertex."""
+    found = []
+    for a in range(len(graph)):
+        trail = [(a,)]
+        while trail:
+            path = trail.pop()
+            if len(path) > 2 and a in graph[path[-1]] and path[1] < path[-1]:
+                found.append(path)
+            trail.extend(path + (b,) for b in graph[path[-1]] if b > a and b not in path)
+    return found
+
+
+# Turns.
+
+def is_turns(x):
+    if type(x) is not tuple or not all(numbers(row) for row in x):
+        return False
+    if any(len(set(row)) < len(row) for row in x):
+        return False
+    return is_graph(tuple(tuple(sorted(row)) for row in x))
+
+
+def graph_in(turns):
+    return tuple(tuple(sorted(row)) for row in turns)
+
+
+def from_least(row):
+    return min((row[k:] + row[:k] for k in range(len(row))), default=())
+
+
+def begun(turns):
+    return tuple(from_least(row) for row in turns)
+
+
+def step(turns, a, b):
+    row = turns[b]
+    return b, row[(row.index(a) + 1) % len(row)]
+
+
+def walk_face(turns, a, b):
+    """The darts of the face with the dart (a, b)."""
+    darts = [(a, b)]
+    while step(turns, *darts[-1]) != (a, b):
+        darts.append(step(turns, *darts[-1]))
+    return darts
+
+
+def face(turns, a, b):
+    return from_least(tuple(dart[0] for dart in walk_face(turns, a, b)))
+
+
+def faces(turns):
+    found = {face(turns, a, b) for a in range(len(turns)) for b in turns[a]}
+    if any(not row for row in turns):
+        found.add(())
+    return tuple(sorted(found))
+
+
+def count_faces(turns):
+    """Each set of darts counts once, each vertex without neighbours too."""
+    lots = {frozenset(walk_face(turns, a, b)) for a in range(len(turns)) for b in turns[a]}
+    return len(lots) + sum(1 for row in turns if not row)
+
+
+def is_plane(x):
+    if not is_turns(x) or len(pieces(x)) != 1:
+        return False
+    return len(x) + count_faces(x) == len(edges(graph_in(x))) + 2
+
+
+def is_face(turns, x):
+    if x == ():
+        return any(not row for row in turns)
+    if not numbers(x):
+        return False
+    for a in range(len(turns)):
+        for b in turns[a]:
+            if tuple(dart[0] for dart in walk_face(turns, a, b)) == x:
+                return True
+    return False
+
+
+def all_turns(graph):
+    """All ways to turn the neighbours round, each turn begun with its least."""
+    rows = []
+    for row in graph:
+        rows.append([row[:1] + rest for rest in permutations(row[1:])])
+    return product(*rows)
+
+
+def drawable(graph):
+    """By all turns of each piece."""
+    for piece in pieces(graph):
+        if not any(is_plane(turns) for turns in all_turns(taken(graph, piece))):
+            return False
+    return True
+
+
+# Sides.
+
+def darts(cycle):
+    return list(zip(cycle, cycle[1:] + cycle[:1]))
+
+
+def sides(turns, cycle):
+    """What hangs between the two darts of cycle at a vertex, behind the coming one, is on the left."""
+    graph = graph_in(turns)
+    left, right = set(), set()
+    hanging = pieces(graph, cycle)
+    for (a, b), (_, c) in zip(darts(cycle), darts(cycle)[1:] + darts(cycle)[:1]):
+        row = turns[b]
+        row = row[row.index(a):] + row[:row.index(a)]
+        for k, d in enumerate(row):
+            for piece in hanging:
+                if d in piece:
+                    (left if k < row.index(c) else right).update(piece)
+    return tuple(sorted(left)), tuple(sorted(right))
+
+
+# Drawings.
+
+def is_join_row(graph, x):
+    if type(x) is not tuple:
+        return False
+    for edge in x:
+        if not numbers(edge) or len(edge) != 2 or edge not in edges(graph):
+            return False
+        if min(len(graph[edge[0]]), len(graph[edge[1]])) < 3:
+            return False
+        graph = joined(graph, edge)
+    return len(graph) == 4 and len(edges(graph)) == 6
+
+
+def ends_of(kind, corners):
+    if kind == "five":
+        places = ((0, 1), (0, 2), (0, 3), (0, 4), (1, 2), (1, 3), (1, 4), (2, 3), (2, 4), (3, 4))
+    else:
+        places = ((0, 3), (0, 4), (0, 5), (1, 3), (1, 4), (1, 5), (2, 3), (2, 4), (2, 5))
+    return [(corners[i], corners[j]) for i, j in places]
+
+
+def is_forbidden(graph, x):
+    if type(x) is not tuple or len(x) != 3 or type(x[0]) is not str or x[0] not in ("five", "three"):
+        return False
+    kind, corners, paths = x
+    if not numbers(corners) or len(corners) != {"five": 5, "three": 6}[kind] or len(set(corners)) < len(corners):
+        return False
+    if any(a >= len(graph) for a in corners) or type(paths) is not tuple:
+        return False
+    pairs = ends_of(kind, corners)
+    if len(paths) != len(pairs):
+        return False
+    for path, (a, b) in zip(paths, pairs):
+        if not is_path(graph, path) or (path[0], path[-1]) != (a, b):
+            return False
+    for k, path in enumerate(paths):
+        for a in path[1:-1]:
+            if a in corners or any(a in other for j, other in enumerate(paths) if j != k):
+                return False
+    return True
+
+
+# Discs and parts.
+
+def is_disc(x):
+    if type(x) is not tuple or len(x) != 2 or not is_plane(x[0]) or len(x[0]) < 3:
+        return False
+    turns, rim = x
+    graph = graph_in(turns)
+    return whole(graph) and is_face(turns, rim) and is_cycle(graph, rim)
+
+
+def soft(disc):
+    turns, rim = disc
+    found = []
+    for pair in combinations(range(len(turns)), 2):
+        for piece in pieces(graph_in(turns), pair):
+            if not set(piece) & set(rim):
+                found.append((pair, piece))
+    return tuple(found)
+
+
+def parts(graph, line):
+    found = []
+    for piece in pieces(graph, line):
+        feet = {a for a in line if any(b in piece for b in graph[a])}
+        found.append((piece, tuple(sorted(feet))))
+    return tuple(sorted(found))
+
+
+def is_too_much(disc, part):
+    return len(part[1]) > (2 if set(part[0]) & set(disc[1]) else 3)
+
+
+def uses(path, edge):
+    return any({a, b} == set(edge) for a, b in zip(path, path[1:]))
+
+
+def way_fault(disc, v, edge, u, x):
+    graph = graph_in(disc[0])
+    if not is_path(graph, x):
+        return "path"
+    if x[0] != v or x[-1] != u:
+        return "ends"
+    if not uses(x, edge):
+        return "edge"
+    return "feet" if any(is_too_much(disc, part) for part in parts(graph, x)) else ""

@@ -1,0 +1,204 @@
+"""Points [28], [2] and [3]: names, errors, the order of the files, and what holds for all functions."""
+
+import ast
+import inspect
+import os
+from importlib import import_module
+
+from tests import made, slow
+from tests.doors import BASES, DoorCase
+from threefeet import errors
+
+ORDER = ("errors graphs cuts turns sides drawings forbidden discs parts walks stretches chains ways ownfeet two rounds"
+         " strands homes spans trees pairs books edits judge texts yards desk").split()
+
+INTERFACE = {
+    "graphs": "is_graph(thing) graph_of(size,edges) edges_of(graph) pieces(graph,gone) shortest_path(graph,a,b,gone)"
+              " with_edges(graph,edges) without_edges(graph,edges) drawn_together(graph,edge) taken_out(graph,members)"
+              " is_path(graph,thing) is_cycle(graph,thing)",
+    "cuts": "is_separator(graph,vertices) separators(graph,many) least_separator(graph,most) connectivity(graph)"
+            " blocks(graph) cut_vertices(graph) block_chain(graph,gone,a,b) triples_with(graph,vertex)"
+            " is_between(graph,vertices,a,b) least_cut_between(graph,a,b)",
+    "turns": "is_turns(thing) graph_in(turns) begun(turns) are_same(turns,other) face_of(turns,a,b) faces(turns)"
+             " euler(turns) is_plane(thing) mirrored(turns) faces_at(turns,vertex) with_chord(turns,face,a,b)"
+             " with_star(turns,face,ends) halved(turns,edge) without_edge(turns,edge)",
+    "sides": "sides(turns,cycle) faces_left(turns,cycle) counts_left(turns,cycle) inside(disc,cycle) arc(cycle,a,b)"
+             " alternate(cycle,a,b,c,d) common(line,other) edges_round(turns,faces)",
+    "drawings": "can_draw(graph) draw(graph) is_drawing(graph,thing) may_join(graph,edge) join_row(graph)"
+                " is_join_row(graph,thing) alike(turns,other)",
+    "forbidden": "is_forbidden(graph,thing) forbidden(graph) edges_in(paper) is_bare(graph) bared(graph)"
+                 " named(paper,names)",
+    "discs": "is_disc(thing) disc_of(turns,face) rim_edges(disc) next_on_rim(disc,vertex) is_solid(disc)"
+             " soft_cuts(disc) with_hub(disc) block_disc(disc,gone,block) less_vertex(turns,vertex)"
+             " less_edge(turns,edge) outer_arcs(disc,vertices)",
+    "parts": "parts(graph,line) feet_of(graph,line,members) parts_on(graph,line,vertex) chords(graph,path)"
+             " rim_parts(disc,line) is_three_footed(disc,line) worst_part(disc,line) is_way(disc,v,edge,u,thing)"
+             " way_fault(disc,v,edge,u,thing)",
+}
+
+FIVE = made.complete(5)
+STEPS = tuple(sorted(slow.edges(FIVE)))
+WHEEL = ((1, 4, 3), (0, 2, 4), (1, 3, 4), (0, 4, 2), (0, 1, 2, 3))
+SPOKES = slow.graph_in(WHEEL)
+# A fit value for each parameter, whatever function it belongs to.
+VALUES = {"size": 5, "edges": ((0, 1), (2, 1)), "graph": SPOKES, "gone": (4,), "a": 0, "b": 2, "c": 1, "d": 3,
+          "edge": (0, 1), "members": (3,), "vertices": (1, 3), "many": 3, "most": 3, "vertex": 1, "turns": WHEEL,
+          "other": (0, 4, 1), "face": (1, 2, 3, 0), "ends": (0, 2), "cycle": (3, 2, 1, 0), "line": (0, 1, 2),
+          "faces": ((4, 1, 0),), "paper": ("five", (0, 1, 2, 3, 4), STEPS), "names": (5, 1, 2, 3, 4), "path": (0, 1, 2),
+          "disc": (WHEEL, (0, 1, 2, 3)), "block": (0, 1, 2, 3), "v": 0, "u": 2, "thing": (0, 1, 4, 3, 2)}
+OWN = {"face_of": {"b": 1}, "alike": {"other": WHEEL}, "are_same": {"other": WHEEL}, "outer_arcs": {"vertices": (0, 2)},
+       "forbidden": {"graph": FIVE}, "bared": {"graph": FIVE}, "block_disc": {"gone": (0,), "block": (1, 2, 3, 4)}}
+
+
+def listed():
+    """The file, the function and its parameters, each one of the interface."""
+    for file, text in INTERFACE.items():
+        for word in text.split():
+            name, _, rest = word[:-1].partition("(")
+            yield file, name, rest.split(",")
+
+
+def function_of(file, name):
+    return getattr(import_module("threefeet." + file), name)
+
+
+def values_for(name, parameters):
+    return [OWN.get(name, {}).get(own, VALUES[own]) for own in parameters]
+
+
+def package_folder():
+    return os.path.dirname(os.path.abspath(errors.__file__))
+
+
+def drawn_from(file):
+    """The files of the package that this file imports from, and the names."""
+    with open(os.path.join(package_folder(), file + ".py")) as held:
+        tree = ast.parse(held.read())
+    for node in ast.walk(tree):
+        if isinstance(node, ast.ImportFrom) and node.module.startswith("threefeet"):
+            for own in node.names:
+                yield node.module.partition(".")[2], own.name
+
+
+class Errors(DoorCase):
+
+    def test_each_error(self):
+        kept = {"NoVertex": ("vertex", 3), "NoEdge": ("edge", (1, 0)), "NoFace": ("face", (0, 2)), "BadText": ("line", 4)}
+        for name, base in BASES.items():
+            kind = getattr(errors, name)
+            self.assertEqual((kind.__bases__, kind.__module__), ((base,), "threefeet.errors"))
+            if name in kept:
+                word, value = kept[name]
+                self.assertEqual(list(inspect.signature(kind).parameters), [word])
+                for own in (kind(value), kind(**{word: value})):
+                    self.assertEqual(vars(own), {word: value})
+            else:
+                self.assertEqual(vars(kind()), {})
+
+    def test_no_others(self):
+        found = {name for name, own in vars(errors).items() if inspect.isclass(own)}
+        self.assertEqual(found, set(BASES))
+
+    def test_raised_and_caught(self):
+        with self.assertRaises(LookupError):
+            raise errors.NoVertex(3)
+        with self.assertRaises(ValueError):
+            raise errors.BadText(0)
+
+
+class Interface(DoorCase):
+
+    def test_names_and_parameters(self):
+        for file, name, parameters in listed():
+            function = function_of(file, name)
+            self.assertTrue(inspect.isfunction(function), name)
+            self.assertEqual(function.__module__, "threefeet." + file)
+            self.assertEqual(list(inspect.signature(function).parameters), parameters, name)
+
+    def test_the_order_of_the_files(self):
+        for place, file in enumerate(ORDER):
+            if os.path.exists(os.path.join(package_folder(), file + ".py")):
+                for other, name in drawn_from(file):
+                    self.assertIn(other, ORDER[:place], (file, name))
+                    own = function_of(other, name)
+                    self.assertEqual(own.__module__, "threefeet." + other)
+
+    def test_importing_the_package_binds_no_name_of_a_file(self):
+        import threefeet
+        names = {name for _, name, _ in listed()} - {file for file, _, _ in listed()}
+        self.assertFalse(names & set(vars(threefeet)))
+
+
+class Calls(DoorCase):
+
+    def test_by_position_and_by_name(self):
+        for file, name, parameters in listed():
+            function = function_of(file, name)
+            values = values_for(name, parameters)
+            due = function(*values)
+            pairs = list(zip(parameters, values))
+            self.same(function(**dict(pairs)), due)
+            self.same(function(**dict(pairs[::-1])), due)
+            self.same(function(values[0], **dict(pairs[1:])), due)
+
+    def test_equal_calls_have_equal_answers(self):
+        """Also behind other calls, in the other order too."""
+        lot = list(listed())
+        first = [repr(function_of(file, name)(*values_for(name, own))) for file, name, own in lot]
+        second = [repr(function_of(file, name)(*values_for(name, own))) for file, name, own in lot[::-1]]
+        self.assertEqual(first, second[::-1])
+
+    def test_equal_answers_where_there_is_a_choice(self):
+        one = [self.choices(graph) for graph in made.many_graphs(9, 40, 1)]
+        two = [self.choices(graph) for graph in made.many_graphs(9, 40, 1)[::-1]]
+        self.assertEqual(one, two[::-1])
+
+    def choices(self, graph):
+        asked = (("graphs", "shortest_path", (0, len(graph) - 1, ())), ("cuts", "least_cut_between", (0, 1)),
+                 ("drawings", "draw", ()), ("drawings", "join_row", ()), ("forbidden", "forbidden", ()),
+                 ("forbidden", "bared", ()))
+        found = []
+        for file, name, rest in asked:
+            try:
+                found.append(function_of(file, name)(graph, *rest))
+            except (LookupError, ValueError) as error:
+                found.append((type(error).__name__, vars(error)))
+        return repr(found)
+
+    def test_arguments_stay_and_answers_are_tuples(self):
+        for file, name, own in listed():
+            values = values_for(name, own)
+            before = repr(values)
+            got = function_of(file, name)(*values)
+            self.assertNotIn(type(got), (list, dict, set))
+            self.assertNotIn("[", repr(got))
+            self.assertEqual(repr(values), before)
+
+    def test_judges_answer_every_thing(self):
+        for file, name, own in listed():
+            if own[-1] == "thing":
+                function = function_of(file, name)
+                for thing in made.OTHERS:
+                    got = function(*values_for(name, own)[:-1], thing)
+                    self.assertIs(type(got), str if name == "way_fault" else bool)
+
+    def test_somewhat_beyond_the_bounds(self):
+        own = made.Map(6, 44, 140, True)
+        graph, turns = own.graph, own.turns
+        disc = (turns, own.outside())
+        edge = own.pairs[0] if own.pairs[0][0] < own.pairs[0][1] else own.pairs[0][::-1]
+        small = made.Map(6, 18, 60, True)
+        self.same(function_of("cuts", "separators")(made.ring_graph(6), 4), slow.separators(made.ring_graph(6), 4))
+        self.same(function_of("cuts", "least_separator")(made.complete(7), 5), None)
+        self.same(function_of("cuts", "connectivity")(graph), 3)
+        self.same(len(function_of("cuts", "blocks")(graph)), 1)
+        self.same(function_of("drawings", "can_draw")(graph), True)
+        self.same(function_of("drawings", "is_drawing")(graph, function_of("drawings", "draw")(graph)), True)
+        self.same(slow.is_join_row(small.graph, function_of("drawings", "join_row")(small.graph)), True)
+        self.same(function_of("drawings", "alike")(turns, turns), True)
+        whole = made.complete(19)
+        self.same(slow.is_forbidden(whole, function_of("forbidden", "forbidden")(whole)), True)
+        self.same(function_of("discs", "is_solid")(disc), True)
+        self.same(slow.is_disc(function_of("discs", "less_vertex")(turns, 9)[1]), True)
+        self.same(len(function_of("discs", "less_edge")(turns, edge)[1]), 4)
+        self.same(function_of("parts", "parts")(graph, disc[1]), slow.parts(graph, disc[1]))

@@ -1,0 +1,1 @@
+"""Threefeet: paths and closed walks of graphs drawn in the plane, with papers."""
