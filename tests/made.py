@@ -224,3 +224,112 @@ def wrong(thing, most=400, seed=0):
 def begun_elsewhere(turns, k):
     """The same turns, each begun elsewhere."""
     return tuple(shifted(row, k + a) for a, row in enumerate(turns))
+
+
+# Walks.
+
+def random_walk(graph, dice, most):
+    """A walk of a graph of one piece with two vertices or more: some steps, and a way back."""
+    walk = [dice.randrange(len(graph))]
+    for _ in range(dice.randint(1, most)):
+        walk.append(dice.choice(graph[walk[-1]]))
+    while walk[0] not in graph[walk[-1]]:
+        walk.append(dice.choice(graph[walk[-1]]))
+    return tuple(walk)
+
+
+def random_walks(many, least, most, seed, steps=12):
+    """Pairs of a graph of one piece and of a walk of it."""
+    dice = Random(seed)
+    found = []
+    while len(found) < many:
+        graph = random_graph(dice.random(), dice.randint(max(2, least), most), dice.choice((0.3, 0.5, 0.8)))
+        if len(slow.pieces(graph)) == 1:
+            found.append((graph, random_walk(graph, dice, steps)))
+    return found
+
+
+def grown_walk(graph, dice):
+    """A walk that begins as there and back on an edge and has others put in by turns there and back, or along edges."""
+    a = dice.randrange(len(graph))
+    walk = [a, dice.choice(graph[a])]
+    for _ in range(3 * len(graph)):
+        k = dice.randrange(len(walk))
+        a, b = walk[k], walk[(k + 1) % len(walk)]
+        fresh = [c for c in graph[a] if c not in walk]
+        if fresh:
+            c = dice.choice(fresh)
+            walk[k + 1:k + 1] = [c] if b in graph[c] else [c, a]
+    return shifted(tuple(walk), dice.randrange(99))
+
+
+# Discs with soft spots, thin ones, and the paths in them.
+
+def thinned(turns, dice, part, fits):
+    """The turns without some of their edges, such that the graph still is fit."""
+    lot = sorted(slow.edges(slow.graph_in(turns)))
+    dice.shuffle(lot)
+    for edge in lot:
+        if dice.random() < part:
+            thin = dropped(turns, edge)
+            if fits(slow.graph_in(thin)):
+                turns = thin
+    return turns
+
+
+def told_anew(disc, dice):
+    """The disc with its vertices numbered anew, and all turns begun anywhere."""
+    turns, rim = disc
+    names = list(range(len(turns)))
+    dice.shuffle(names)
+    rows = [()] * len(turns)
+    for a, row in enumerate(turns):
+        rows[names[a]] = shifted(tuple(names[b] for b in row), dice.randrange(9))
+    return tuple(rows), shifted(tuple(names[a] for a in rim), dice.randrange(9))
+
+
+def thin_discs(many, least, most, seed=0, fits=slow.whole):
+    """Discs that are thinned out; with slow.firm as fits they are solid, by another face or a vertex less."""
+    dice = Random(seed)
+    found = []
+    while len(found) < many:
+        n = dice.randint(least, most)
+        own = Map(dice.random(), n, 3 * n, True)
+        turns = thinned(own.turns, dice, dice.choice((0.3, 0.8, 1, 1)), fits)
+        found.append(told_anew((turns, dice.choice(slow.faces(turns))), dice))
+    return found
+
+
+def hub_less(turns, vertex):
+    """The disc of all vertices but this one; its rim is where it was."""
+    kept = [a for a in range(len(turns)) if a != vertex]
+    place = {a: k for k, a in enumerate(kept)}
+    rows = tuple(tuple(place[b] for b in turns[a] if b != vertex) for a in kept)
+    around = [slow.walk_face(turns, vertex, b) for b in turns[vertex]]
+    inner = {(place[a], place[b]) for face in around for a, b in face if vertex not in (a, b)}
+    return rows, [own for own in slow.faces(rows) if set(slow.darts(own)) == inner][0]
+
+
+def solid_discs(many, least, most, seed=0):
+    """Solid discs, thick and thin, with short and with long rims."""
+    dice = Random(seed)
+    found = []
+    while len(found) < many:
+        n = dice.randint(max(4, least + 1), most + 1)
+        turns = thinned(Map(dice.random(), n, 3 * n, True).turns, dice, dice.choice((0.1, 0.5, 0.9, 1, 1)), slow.firm)
+        if n <= most and dice.random() < 0.4:
+            disc = (turns, dice.choice(slow.faces(turns)))
+        else:
+            disc = hub_less(turns, dice.randrange(n))
+        found.append(told_anew(disc, dice))
+    return found
+
+
+def rim_pairs(disc):
+    """The edges of the rim, the lesser vertex first."""
+    return [tuple(sorted(dart)) for dart in slow.darts(disc[1])]
+
+
+def asks(disc):
+    """All v, edge, u for this disc."""
+    return [(v, edge, u) for v in disc[1] for edge in rim_pairs(disc) for u in range(len(disc[0])) if u != v]

@@ -334,3 +334,103 @@ def way_fault(disc, v, edge, u, x):
     if not uses(x, edge):
         return "edge"
     return "feet" if any(is_too_much(disc, part) for part in parts(graph, x)) else ""
+
+
+# Walks.
+
+def steps(walk):
+    """The edges from each place to the next, and from the last to the first."""
+    return [] if len(walk) == 1 else [tuple(sorted(dart)) for dart in darts(walk)]
+
+
+def is_walk(graph, x):
+    if not numbers(x) or not x or any(a >= len(graph) for a in x):
+        return False
+    if len(x) == 1:
+        return len(graph) == 1
+    return all(b in graph[a] for a, b in darts(x))
+
+
+def is_home(graph, x):
+    if type(x) is not tuple or len(x) != 2 or not is_walk(graph, x[0]) or type(x[1]) is not tuple:
+        return False
+    walk, triples = x
+    if any(walk.count(a) not in (1, 2) for a in range(len(graph))):
+        return False
+    doubled = [a for a in range(len(graph)) if walk.count(a) == 2]
+    if len(triples) != len(doubled):
+        return False
+    for a, own in zip(doubled, triples):
+        if not a_set(own) or len(own) != 3 or a not in own or any(b >= len(graph) for b in own):
+            return False
+        if len(pieces(graph, own)) < 2:
+            return False
+    return True
+
+
+def first_fault(graph, walk):
+    """By counting, and by taking out every three vertices."""
+    for k in range(len(walk)):
+        if walk[k] >= len(graph):
+            return "vertex", k
+    for k, (a, b) in enumerate(darts(walk)):
+        if b not in graph[a] and (walk, graph) != ((0,), ((),)):
+            return "edge", k
+    for a in range(len(graph)):
+        if walk.count(a) == 0:
+            return "missing", a
+    for a in range(len(graph)):
+        if walk.count(a) > 2:
+            return "often", a
+    held = {a for own in separators(graph, 3) for a in own}
+    for a in range(len(graph)):
+        if walk.count(a) == 2 and a not in held:
+            return "triple", a
+    return None
+
+
+# What hangs at an arc.
+
+def hangings(disc, arc, path):
+    graph = graph_in(disc[0])
+    found = set()
+    for piece in pieces(graph, arc + path):
+        at = [k for k, a in enumerate(arc) if set(graph[a]) & set(piece)]
+        if at:
+            feet = tuple(sorted(a for a in path if set(graph[a]) & set(piece)))
+            found.add((at[0], at[-1], piece, feet))
+    for i, j in combinations(range(len(arc)), 2):
+        if j > i + 1 and arc[j] in graph[arc[i]]:
+            found.add((i, j, (), ()))
+    return tuple(sorted(found))
+
+
+def stretches(lot):
+    """By comparing all pairs."""
+    pairs = {own[:2] for own in lot}
+    return tuple(sorted((i, j) for i, j in pairs
+                        if i < j and not any((k, m) != (i, j) and k <= i and j <= m for k, m in pairs)))
+
+
+def in_stretch(lot, stretch):
+    i, j = stretch
+    return [own for own in lot if i <= own[0] <= own[1] <= j and own[:2] not in ((i, i), (j, j))]
+
+
+def arcs_to(disc, v, edge, u):
+    """The SIDES, by going along the rim, in both directions."""
+    graph = graph_in(disc[0])
+    found = []
+    for rim in (disc[1], disc[1][::-1]):
+        row = rim * 3
+        at = row.index(v) + len(rim)
+        row = row[at:at + len(rim)]
+        line = []
+        while row[len(line)] not in edge:
+            line.append(row[len(line)])
+        line.append(row[len(line)])
+        back = row[len(line):]
+        if back[0] in edge and u not in line:
+            if any({u, back[0]} <= set(piece) for piece in pieces(graph, line)):
+                found.append((tuple(line), line[-1], back[0], back))
+    return found

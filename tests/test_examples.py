@@ -4,7 +4,8 @@ import os
 from importlib import import_module
 from unittest import TestCase
 
-FILES = {4: "graphs", 5: "cuts", 6: "turns", 7: "sides", 8: "drawings", 9: "forbidden", 10: "discs", 11: "parts"}
+FILES = {4: "graphs", 5: "cuts", 6: "turns", 7: "sides", 8: "drawings", 9: "forbidden", 10: "discs", 11: "parts",
+         12: "walks", 13: "stretches", 14: "chains", 15: "ways"}
 
 
 def example_lines():
@@ -40,7 +41,7 @@ class Examples(TestCase):
                 due = line if line.startswith("raises ") else repr(eval(line, names))
                 self.assertEqual(outcome(source, names), due, source)
                 asked[point] += 1
-        self.assertEqual(sum(asked.values()), 59)
+        self.assertEqual(sum(asked.values()), 79)
         self.assertTrue(all(asked.values()))
 
 

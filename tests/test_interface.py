@@ -4,6 +4,7 @@ import ast
 import inspect
 import os
 from importlib import import_module
+from random import Random
 
 from tests import made, slow
 from tests.doors import BASES, DoorCase
@@ -34,6 +35,16 @@ INTERFACE = {
     "parts": "parts(graph,line) feet_of(graph,line,members) parts_on(graph,line,vertex) chords(graph,path)"
              " rim_parts(disc,line) is_three_footed(disc,line) worst_part(disc,line) is_way(disc,v,edge,u,thing)"
              " way_fault(disc,v,edge,u,thing)",
+    "walks": "is_walk(graph,thing) is_home(graph,thing) visits(walk) twice(walk) edge_uses(walk) first_fault(graph,walk)"
+             " triples_for(graph,walk) begun_at(walk,vertex) merged(walk,other,vertex) unpaired(walk,edge)"
+             " first_comings(walk)",
+    "stretches": "hangings(disc,arc,path) stretches(disc,arc,path) stretch_vertices(disc,arc,path,stretch)"
+                 " standing(disc,arc,path,stretch) shut_off(disc,arc,path,stretch) arc_left(disc,arc,path)"
+                 " led_anew(arc,stretch,line)",
+    "chains": "side(disc,v,edge,u) is_side(disc,v,edge,u,thing) kept(disc,arc,y) chain(disc,arc,y,u)"
+              " hung_at(graph,members,links,vertex) chain_exit(disc,arc,back,links)",
+    "ways": "way(disc,v,edge,u) way_by_each(disc,v,u) way_to_each(disc,v,edge) way_in_face(turns,face,v,edge,u)"
+            " way_round(disc,v,edge)",
 }
 
 FIVE = made.complete(5)
@@ -45,8 +56,12 @@ VALUES = {"size": 5, "edges": ((0, 1), (2, 1)), "graph": SPOKES, "gone": (4,), "
           "edge": (0, 1), "members": (3,), "vertices": (1, 3), "many": 3, "most": 3, "vertex": 1, "turns": WHEEL,
           "other": (0, 4, 1), "face": (1, 2, 3, 0), "ends": (0, 2), "cycle": (3, 2, 1, 0), "line": (0, 1, 2),
           "faces": ((4, 1, 0),), "paper": ("five", (0, 1, 2, 3, 4), STEPS), "names": (5, 1, 2, 3, 4), "path": (0, 1, 2),
-          "disc": (WHEEL, (0, 1, 2, 3)), "block": (0, 1, 2, 3), "v": 0, "u": 2, "thing": (0, 1, 4, 3, 2)}
-OWN = {"face_of": {"b": 1}, "alike": {"other": WHEEL}, "are_same": {"other": WHEEL}, "outer_arcs": {"vertices": (0, 2)},
+          "disc": (WHEEL, (0, 1, 2, 3)), "block": (0, 1, 2, 3), "v": 0, "u": 2, "thing": (0, 1, 4, 3, 2),
+          "walk": (0, 1, 4, 0, 1, 2, 3), "arc": (0, 1, 2), "stretch": (0, 2), "y": 3, "back": (3,),
+          "links": (((3, 4), 3, 4),)}
+OWN = {"led_anew": {"line": (0, 4, 2)}, "chain": {"u": 4}, "hung_at": {"members": (3, 4), "vertex": 4},
+       "way_round": {"edge": (2, 3)},
+       "face_of": {"b": 1}, "alike": {"other": WHEEL}, "are_same": {"other": WHEEL}, "outer_arcs": {"vertices": (0, 2)},
        "forbidden": {"graph": FIVE}, "bared": {"graph": FIVE}, "block_disc": {"gone": (0,), "block": (1, 2, 3, 4)}}
 
 
@@ -63,7 +78,8 @@ def function_of(file, name):
 
 
 def values_for(name, parameters):
-    return [OWN.get(name, {}).get(own, VALUES[own]) for own in parameters]
+    rest = {"path": (3,)} if "arc" in parameters else {}
+    return [OWN.get(name, rest).get(own, VALUES[own]) for own in parameters]
 
 
 def package_folder():
@@ -202,3 +218,11 @@ class Calls(DoorCase):
         self.same(slow.is_disc(function_of("discs", "less_vertex")(turns, 9)[1]), True)
         self.same(len(function_of("discs", "less_edge")(turns, edge)[1]), 4)
         self.same(function_of("parts", "parts")(graph, disc[1]), slow.parts(graph, disc[1]))
+        walk = made.grown_walk(graph, Random(1))
+        self.same(function_of("walks", "is_walk")(graph, walk), True)
+        self.same(len(function_of("walks", "edge_uses")(walk * 2)), len(set(slow.steps(walk))))
+        self.same(function_of("walks", "first_fault")(small.graph, (0, 0)), ("edge", 0))
+        rim = disc[1]
+        self.same(function_of("stretches", "hangings")(disc, rim[:2], rim[2:]), slow.hangings(disc, rim[:2], rim[2:]))
+        self.assertEqual(slow.way_fault(disc, rim[0], tuple(sorted(rim[1:3])), 9, function_of("ways", "way")(
+            disc, rim[0], tuple(sorted(rim[1:3])), 9)), "")

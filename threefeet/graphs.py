@@ -28,6 +28,16 @@ def are_unlike(numbers):
     return len(set(numbers)) == len(numbers)
 
 
+def is_set(thing, size):
+    """Whether thing is a set of numbers below size."""
+    return are_vertices(thing, size) and tuple(sorted(set(thing))) == thing
+
+
+def is_tuple_of(thing, many):
+    """Whether thing is a tuple of so many things."""
+    return isinstance(thing, tuple) and len(thing) == many
+
+
 def are_rows(thing):
     """Whether thing is a tuple of tuples of unlike vertices, none of them in its own tuple."""
     if not isinstance(thing, tuple):
