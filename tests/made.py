@@ -333,3 +333,41 @@ def rim_pairs(disc):
 def asks(disc):
     """All v, edge, u for this disc."""
     return [(v, edge, u) for v in disc[1] for edge in rim_pairs(disc) for u in range(len(disc[0])) if u != v]
+
+
+# Discs and drawings with many small parts.
+
+def starred(turns, face, ends):
+    """The turns with a vertex more in this face, joined to ends."""
+    rows = [list(row) for row in turns]
+    for k, b in enumerate(face):
+        if b in ends:
+            rows[b].insert(rows[b].index(face[k - 1]) + 1, len(turns))
+    rows.append([b for b in face if b in ends][::-1])
+    return tuple(tuple(row) for row in rows)
+
+
+def stuffed(dice, least, most):
+    """A solid disc, of a smaller one with vertices of three edges in its faces and of two edges outside its rim."""
+    turns, rim = solid_discs(1, least, least + 3, dice.random())[0]
+    inner = [face for face in slow.faces(turns) if face != slow.from_least(rim)]
+    one, two = dice.choice((0.3, 0.6, 0.9)), dice.choice((0.3, 0.6, 0.9))
+    for face in inner:
+        if dice.random() < one and len(turns) < most:
+            turns = starred(turns, face, dice.sample(face, 3))
+    for a, b in slow.darts(rim):
+        if dice.random() < two and len(turns) < most:
+            at = rim.index(a)
+            turns, rim = starred(turns, rim, (a, b)), rim[:at + 1] + (len(turns),) + rim[at + 1:]
+    return told_anew((turns, rim), dice)
+
+
+def stacked(dice, n):
+    """A drawing of connectivity 3 or more with many separators of three vertices: vertices put into faces."""
+    turns = ((1, 2, 3), (0, 3, 2), (0, 1, 3), (0, 2, 1))
+    while len(turns) < n:
+        lot = slow.faces(turns)
+        face = dice.choice(lot[-6:] if dice.random() < 0.6 else lot)
+        turns = starred(turns, face, dice.sample(face, dice.randint(3, len(face))))
+        turns = thinned(turns, dice, 0.1, slow.firm)
+    return turns

@@ -434,3 +434,78 @@ def arcs_to(disc, v, edge, u):
             if any({u, back[0]} <= set(piece) for piece in pieces(graph, line)):
                 found.append((tuple(line), line[-1], back[0], back))
     return found
+
+
+# Feet of their own.
+
+def own_choices(lot, spared):
+    """All OWN FEET for these parts that spare spared, by trying all choices."""
+    found = []
+    for own in product(*([a for a in part[1] if a not in spared] for part in lot)):
+        if len(set(own)) == len(own):
+            found.append(own)
+    return found
+
+
+def is_own_feet(graph, line, spared, x):
+    lot = parts(graph, line)
+    if not numbers(x) or len(x) != len(lot) or len(set(x)) < len(x):
+        return False
+    return all(a in part[1] and a not in spared for a, part in zip(x, lot))
+
+
+def is_crowd(graph, line, spared, x):
+    """By counting feet."""
+    if type(x) is not tuple or not x or not all(numbers(own) for own in x) or list(x) != sorted(set(x)):
+        return False
+    lot = [part for part in parts(graph, line) if part[0] in x]
+    if len(lot) != len(x):
+        return False
+    return len({a for part in lot for a in part[1]} - set(spared)) < len(x)
+
+
+def crowds(graph, line, spared):
+    """All of them."""
+    names = [part[0] for part in parts(graph, line)]
+    return [own for many in range(1, len(names) + 1) for own in combinations(names, many)
+            if is_crowd(graph, line, spared, own)]
+
+
+def is_own_way(disc, v, edge, u, spared, x):
+    if type(x) is not tuple or len(x) != 2 or way_fault(disc, v, edge, u, x[0]) != "":
+        return False
+    return is_own_feet(graph_in(disc[0]), x[0], spared, x[1])
+
+
+def all_ways(disc, v, edge, u):
+    lot = all_paths(graph_in(disc[0]), v, u)
+    return tuple(sorted(path for path in lot if way_fault(disc, v, edge, u, path) == ""))
+
+
+def can_spare(disc, v, edge, u, spared):
+    graph = graph_in(disc[0])
+    return any(own_choices(parts(graph, path), spared) for path in all_ways(disc, v, edge, u))
+
+
+def is_three_footed(disc, line):
+    return not any(is_too_much(disc, part) for part in parts(graph_in(disc[0]), line))
+
+
+def is_round(disc, spared, x):
+    graph = graph_in(disc[0])
+    if type(x) is not tuple or len(x) != 2 or not is_cycle(graph, x[0]) or not set(spared) <= set(x[0]):
+        return False
+    return is_three_footed(disc, x[0]) and is_own_feet(graph, x[0], spared, x[1])
+
+
+def is_disc_home(disc, p, q, x):
+    """Step by step."""
+    turns, rim = disc
+    if not is_walk(graph_in(turns), x) or any(x.count(a) not in (1, 2) for a in range(len(turns))):
+        return False
+    lot = steps(x)
+    if x.count(p) != 1 or x.count(q) != 1 or any(lot.count(own) > 2 for own in lot):
+        return False
+    between = tuple(sorted((p, q)))
+    near = [tuple(sorted(dart)) for dart in darts(rim)]
+    return between not in near or lot.count(between) == 1

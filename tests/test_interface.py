@@ -45,6 +45,19 @@ INTERFACE = {
               " hung_at(graph,members,links,vertex) chain_exit(disc,arc,back,links)",
     "ways": "way(disc,v,edge,u) way_by_each(disc,v,u) way_to_each(disc,v,edge) way_in_face(turns,face,v,edge,u)"
             " way_round(disc,v,edge)",
+    "ownfeet": "own_feet(graph,line,spared) is_own_feet(graph,line,spared,thing) crowded(graph,line,spared)"
+               " is_crowded(graph,line,spared,thing) own_way(disc,v,edge,u,spared)"
+               " is_own_way(disc,v,edge,u,spared,thing) own_ways(disc,v,edge,u) nobodys(line,own)",
+    "two": "all_ways(disc,v,edge,u) spares(disc,v,edge,u,spared) spare_papers(disc,v,edge,u,spared)"
+           " most_spared(disc,v,edge,u) counter_disc(kind) is_counter(thing) next_way(disc,v,edge,u,spared)",
+    "rounds": "round_through(disc,p,q) is_round(disc,spared,thing) round_by(disc,edge,other) all_rounds(disc)"
+              " rounds_sparing(disc,spared) top_round(turns) is_top_round(turns,thing)",
+    "strands": "strand(disc,cycle,members,foot) is_strand(disc,cycle,members,foot,thing)"
+               " outside_feet(disc,cycle,members,vertex) change_overs(disc,cycle,members,foot)"
+               " strand_disc(disc,members,foot,block) strand_walk(disc,cycle,members,foot)"
+               " is_strand_walk(disc,cycle,members,foot,thing)",
+    "homes": "disc_home(disc,p,q) is_disc_home(disc,p,q,thing) open_home(disc,p,q) closed_home(turns,edge) home(turns)"
+             " home_by(turns,edge) main(graph) is_main(graph,thing) sure_word(graph)",
 }
 
 FIVE = made.complete(5)
@@ -58,8 +71,12 @@ VALUES = {"size": 5, "edges": ((0, 1), (2, 1)), "graph": SPOKES, "gone": (4,), "
           "faces": ((4, 1, 0),), "paper": ("five", (0, 1, 2, 3, 4), STEPS), "names": (5, 1, 2, 3, 4), "path": (0, 1, 2),
           "disc": (WHEEL, (0, 1, 2, 3)), "block": (0, 1, 2, 3), "v": 0, "u": 2, "thing": (0, 1, 4, 3, 2),
           "walk": (0, 1, 4, 0, 1, 2, 3), "arc": (0, 1, 2), "stretch": (0, 2), "y": 3, "back": (3,),
-          "links": (((3, 4), 3, 4),)}
-OWN = {"led_anew": {"line": (0, 4, 2)}, "chain": {"u": 4}, "hung_at": {"members": (3, 4), "vertex": 4},
+          "links": (((3, 4), 3, 4),), "spared": (), "own": (0,), "kind": "ends", "p": 0, "q": 1, "foot": 0}
+BELL = {"disc": (((1, 2, 3), (0, 4, 5, 2), (0, 1, 5, 6), (0, 6, 5, 4), (1, 3, 5), (1, 4, 3, 6, 2), (2, 5, 3)), (0, 2, 1)),
+        "cycle": (0, 1, 2), "members": (3, 4, 5, 6), "vertex": 5, "block": (3, 4, 5, 6)}
+OWN = {"crowded": {"spared": (0, 1, 2)}, "own_way": {"spared": 2}, "next_way": {"u": 3, "spared": (0, 3)},
+       "round_by": {"other": (2, 3)},
+       "led_anew": {"line": (0, 4, 2)}, "chain": {"u": 4}, "hung_at": {"members": (3, 4), "vertex": 4},
        "way_round": {"edge": (2, 3)},
        "face_of": {"b": 1}, "alike": {"other": WHEEL}, "are_same": {"other": WHEEL}, "outer_arcs": {"vertices": (0, 2)},
        "forbidden": {"graph": FIVE}, "bared": {"graph": FIVE}, "block_disc": {"gone": (0,), "block": (1, 2, 3, 4)}}
@@ -78,7 +95,7 @@ def function_of(file, name):
 
 
 def values_for(name, parameters):
-    rest = {"path": (3,)} if "arc" in parameters else {}
+    rest = {"path": (3,)} if "arc" in parameters else BELL if "foot" in parameters or name == "outside_feet" else {}
     return [OWN.get(name, rest).get(own, VALUES[own]) for own in parameters]
 
 
@@ -172,7 +189,8 @@ class Calls(DoorCase):
     def choices(self, graph):
         asked = (("graphs", "shortest_path", (0, len(graph) - 1, ())), ("cuts", "least_cut_between", (0, 1)),
                  ("drawings", "draw", ()), ("drawings", "join_row", ()), ("forbidden", "forbidden", ()),
-                 ("forbidden", "bared", ()))
+                 ("forbidden", "bared", ()), ("homes", "main", ()), ("ownfeet", "own_feet", ((0,), ())),
+                 ("ownfeet", "crowded", ((0,), (0,))))
         found = []
         for file, name, rest in asked:
             try:
@@ -226,3 +244,10 @@ class Calls(DoorCase):
         self.same(function_of("stretches", "hangings")(disc, rim[:2], rim[2:]), slow.hangings(disc, rim[:2], rim[2:]))
         self.assertEqual(slow.way_fault(disc, rim[0], tuple(sorted(rim[1:3])), 9, function_of("ways", "way")(
             disc, rim[0], tuple(sorted(rim[1:3])), 9)), "")
+        own = function_of("ownfeet", "own_way")(disc, rim[0], tuple(sorted(rim[1:3])), 9, rim[1])
+        self.assertTrue(slow.is_own_way(disc, rim[0], tuple(sorted(rim[1:3])), 9, (rim[1],), own))
+        self.assertTrue(slow.is_round(disc, rim[:2], function_of("rounds", "round_through")(disc, rim[0], rim[1])))
+        self.assertTrue(slow.is_disc_home(disc, rim[0], rim[1], function_of("homes", "disc_home")(disc, rim[0], rim[1])))
+        self.assertTrue(slow.is_home(small.graph, function_of("homes", "home")(small.turns)))
+        self.assertTrue(slow.is_home(small.graph, function_of("homes", "main")(small.graph)[1]))
+        self.assertEqual(function_of("homes", "sure_word")(made.complete(18)), "forbidden")

@@ -48,7 +48,7 @@ class Stretches(DoorCase):
 
     def test_many(self):
         seen = {"edge": 0, "end": 0, "two": 0, "one": 0, "none": 0, "shut": 0}
-        for disc, arc, path in cases(300, 3, 11, 1):
+        for disc, arc, path in cases(200, 3, 11, 1):
             self.check(disc, arc, path, seen)
         self.assertGreater(min(seen.values()), 10, seen)
 
