@@ -371,3 +371,149 @@ def stacked(dice, n):
         turns = starred(turns, face, dice.sample(face, dice.randint(3, len(face))))
         turns = thinned(turns, dice, 0.1, slow.firm)
     return turns
+
+
+# Drawings of connectivity 4, drawings put together by pairs of vertices, books.
+
+FOUR = ((1, 2, 3), (0, 3, 2), (0, 1, 3), (0, 2, 1))
+
+
+def drum(k):
+    """Two rings of k vertices, one within the other, and triangles between them."""
+    inner = [((a + 1) % k, (a - 1) % k, k + a, k + (a + 1) % k) for a in range(k)]
+    outer = [(k + (a - 1) % k, k + (a + 1) % k, a, (a - 1) % k) for a in range(k)]
+    return tuple(tuple(row) for row in inner + outer)
+
+
+def tent(k):
+    """A ring of k vertices with one in it and one round it."""
+    return starred(starred(ring_graph(k), tuple(range(k)), tuple(range(k))), tuple(range(k))[::-1], tuple(range(k)))
+
+
+def thick_maps(many, least, most, seed=0):
+    """Drawings of connectivity 4, some of them thinned out."""
+    dice = Random(seed)
+    found = []
+    while len(found) < many:
+        n = dice.randint(least, most)
+        own = Map(dice.random(), n, 3 * n, True)
+        if slow.thick(own.graph):
+            turns = thinned(own.turns, dice, dice.choice((0, 0.5, 1)), slow.thick)
+            found.append(told_anew((turns, ()), dice)[0])
+    return found
+
+
+def torso_drawn(dice, most):
+    """A ring, or a drawing of connectivity 3 or more."""
+    if most < 4 or dice.random() < 0.5:
+        return ring_graph(dice.randint(3, max(3, min(5, most))))
+    return stacked(dice, dice.randint(4, min(7, most)))
+
+
+def beside(turns, a, b, own, p, q):
+    """turns with another drawing glued to the edge of a and b by its edge of p and q; and the names in turns."""
+    fresh = [c for c in range(len(own)) if c not in (p, q)]
+    names = {p: a, q: b, **{c: len(turns) + k for k, c in enumerate(fresh)}}
+    rows = [list(row) for row in turns] + [[names[d] for d in own[c]] for c in fresh]
+    for c, d, at in ((q, p, 1), (p, q, 0)):
+        k = own[c].index(d)
+        j = rows[names[c]].index(names[d]) + at
+        rows[names[c]][j:j] = [names[e] for e in own[c][k + 1:] + own[c][:k]]
+    return tuple(tuple(row) for row in rows), names
+
+
+def at_vertex(turns, a, own, dice):
+    """turns with another drawing that has the vertex a, its own 0, in common; and the names in turns."""
+    names = {0: a, **{c: len(turns) + c - 1 for c in range(1, len(own))}}
+    rows = [list(row) for row in turns] + [[names[d] for d in row] for row in own[1:]]
+    k = dice.randrange(len(rows[a]) + 1)
+    rows[a][k:k] = [names[d] for d in own[0]]
+    return tuple(tuple(row) for row in rows), names
+
+
+class Limbed:
+    """A drawing put together of limbs; limbs tells them as they were put in."""
+
+    def __init__(self, dice, most):
+        self.dice = dice
+        self.turns = torso_drawn(dice, most)
+        self.lot = [(set(range(len(self.turns))), set(), slow.is_ring(slow.graph_in(self.turns)))]
+        self.ties = set()
+        while len(self.turns) < most and dice.random() < 0.9:
+            self.grow(most - len(self.turns))
+        for tie in sorted(self.ties):
+            own = [limb for limb in self.lot if tie in limb[1]]
+            # Two rings alone would be joined again.
+            if dice.random() < 0.6 and (len(own) > 2 or not own[0][2] or not own[1][2]):
+                self.turns = dropped(self.turns, tie)
+        self.tell_anew()
+
+    def grow(self, room):
+        kind = self.dice.random()
+        if kind < 0.24:
+            own = ((1,), (0,)) if kind < 0.14 or room < 2 else torso_drawn(self.dice, room + 1)
+            if len(own) - 1 <= room:
+                self.turns, names = at_vertex(self.turns, self.dice.randrange(len(self.turns)), own, self.dice)
+                self.lot.append((set(names.values()), set(), slow.is_ring(slow.graph_in(own))))
+            return
+        own = torso_drawn(self.dice, room + 2)
+        pairs = [pair for pair in sorted(slow.edges(slow.graph_in(self.turns)))
+                 if any(set(pair) <= limb[0] and len(limb[0]) > 2 for limb in self.lot)]
+        if self.ties and self.dice.random() < 0.4:
+            pairs = sorted(self.ties)
+        tie = self.dice.choice(pairs)
+        a, b = self.dice.choice((tie, tie[::-1]))
+        p, q = self.dice.choice(sorted(slow.edges(slow.graph_in(own))))
+        self.turns, names = beside(self.turns, a, b, own, p, q)
+        self.lot.append((set(names.values()), set(), slow.is_ring(slow.graph_in(own))))
+        self.ties.add(tie)
+        for limb in self.lot:
+            if set(tie) <= limb[0]:
+                limb[1].add(tie)
+
+    def tell_anew(self):
+        names = list(range(len(self.turns)))
+        self.dice.shuffle(names)
+        rows = [()] * len(names)
+        for a, row in enumerate(self.turns):
+            rows[names[a]] = shifted(tuple(names[b] for b in row), self.dice.randrange(9))
+        self.turns = tuple(rows)
+        self.limbs = tuple(sorted(
+            (tuple(sorted(names[a] for a in members)), tuple(sorted(tuple(sorted((names[a], names[b]))) for a, b in ties)))
+            for members, ties, _ in self.lot))
+
+
+def random_book(dice, size, part=1):
+    """A book with as many pairs as come without crossing, or with part of them."""
+    pages = [], []
+    pairs = [(i, j) for i in range(size) for j in range(i + 2, size) if (i, j) != (0, size - 1)]
+    dice.shuffle(pairs)
+    for pair in pairs[:int(len(pairs) * part)]:
+        page = dice.choice(pages)
+        if not any(slow.do_cross(pair, own) for own in page):
+            page.append(pair)
+    return size, tuple(sorted(pages[0])), tuple(sorted(pages[1]))
+
+
+# Homes of all kinds.
+
+def random_home(turns, dice, tries=200):
+    """A home found by going on at random; None if none is found."""
+    graph = slow.graph_in(turns)
+    held = slow.held_in_triples(graph)
+    for _ in range(tries):
+        left = {a: 2 if held[a] and dice.random() < 0.8 else 1 for a in range(len(graph))}
+        walk = [dice.randrange(len(graph))]
+        left[walk[0]] -= 1
+        while walk:
+            if len(set(walk)) == len(graph) and walk[0] in graph[walk[-1]] and dice.random() < 0.5:
+                row = shifted(tuple(walk)[::dice.choice((1, -1))], dice.randrange(99))
+                return row, tuple(dice.choice(held[a]) for a in range(len(graph)) if row.count(a) == 2)
+            fit = [b for b in graph[walk[-1]] if left[b]]
+            fresh = [b for b in fit if b not in walk]
+            if not fit:
+                walk = []
+            else:
+                walk.append(dice.choice(fresh if fresh and dice.random() < 0.5 else fit))
+                left[walk[-1]] -= 1
+    return None

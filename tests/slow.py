@@ -509,3 +509,158 @@ def is_disc_home(disc, p, q, x):
     between = tuple(sorted((p, q)))
     near = [tuple(sorted(dart)) for dart in darts(rim)]
     return between not in near or lot.count(between) == 1
+
+
+# Lines over all vertices, and trees.
+
+def thick(graph):
+    """Of connectivity 4."""
+    if len(graph) < 5 or min(len(row) for row in graph) < 4:
+        return False
+    return not any(len(pieces(graph, own)) > 1 for many in range(4) for own in combinations(range(len(graph)), many))
+
+
+def is_round_over(graph, gone, x):
+    return is_cycle(graph, x) and set(x) == set(range(len(graph))) - set(gone)
+
+
+def is_path_over(graph, a, b, x):
+    return is_path(graph, x) and set(x) == set(range(len(graph))) and (x[0], x[-1]) == (a, b)
+
+
+def is_tree(graph, x):
+    """By counting its edges, and by walking along them."""
+    if type(x) is not tuple or not all(numbers(own) and len(own) == 2 and own in edges(graph) for own in x):
+        return False
+    if list(x) != sorted(set(x)) or len(x) != len(graph) - 1:
+        return False
+    reached = {0}
+    for _ in graph:
+        reached |= {b for pair in x for b in pair if set(pair) & reached}
+    return reached == set(range(len(graph)))
+
+
+def is_low_tree(graph, leaf, x):
+    if not is_tree(graph, x):
+        return False
+    many = [sum(a in pair for pair in x) for a in range(len(graph))]
+    return max(many) <= 3 and many[leaf] == 1
+
+
+# Limbs.
+
+def torso(graph, limb):
+    members, ties = limb
+    pairs = {(a, b) for a, b in combinations(members, 2) if b in graph[a] or (a, b) in ties}
+    place = {a: k for k, a in enumerate(members)}
+    return made(len(members), [(place[a], place[b]) for a, b in pairs])
+
+
+def splits(graph, limb):
+    """All pairs of members less which the torso falls apart."""
+    small = torso(graph, limb)
+    return [own for own in combinations(range(len(small)), 2) if len(pieces(small, own)) > 1]
+
+
+def split_at(graph, limb, own):
+    members, ties = limb
+    tie = tuple(members[k] for k in own)
+    found = []
+    for piece in pieces(torso(graph, limb), own):
+        kept = {members[k] for k in piece} | set(tie)
+        found.append((tuple(sorted(kept)), tuple(sorted({pair for pair in ties if set(pair) <= kept} | {tie}))))
+    return found
+
+
+def is_ring(graph):
+    return len(graph) > 2 and all(len(row) == 2 for row in graph) and len(pieces(graph)) == 1
+
+
+def joins(graph, lot):
+    """The pairs of limbs that may be joined, and the tie by which."""
+    found = []
+    for one, other in combinations(lot, 2):
+        for tie in set(one[1]) & set(other[1]):
+            third = [own for own in lot if own not in (one, other) and tie in own[1]]
+            if not third and tie[1] not in graph[tie[0]]:
+                if is_ring(torso(graph, one)) and is_ring(torso(graph, other)):
+                    found.append((one, other, tie))
+    return found
+
+
+def limbs(graph, dice):
+    """By splitting and joining, in any order."""
+    lot = [(block, ()) for block in blocks(graph)]
+    while True:
+        fit = [(limb, own) for limb in lot for own in splits(graph, limb)]
+        if not fit:
+            break
+        limb, own = dice.choice(fit)
+        lot.remove(limb)
+        lot += split_at(graph, limb, own)
+    while joins(graph, lot):
+        one, other, tie = dice.choice(joins(graph, lot))
+        lot.remove(one)
+        lot.remove(other)
+        lot.append((tuple(sorted({*one[0], *other[0]})), tuple(sorted({*one[1], *other[1]} - {tie}))))
+    return tuple(sorted(lot))
+
+
+def is_home_by_limbs(graph, lot, x):
+    """lot being the limbs."""
+    if not is_walk(graph, x):
+        return False
+    return all(1 <= x.count(a) <= 1 + sum(a in own[0] for own in lot) for a in range(len(graph)))
+
+
+# Books.
+
+def do_cross(one, other):
+    """Whether just one end of the one lies strictly between the ends of the other, and none is common."""
+    if set(one) & set(other):
+        return False
+    return len([k for k in one if other[0] < k < other[1]]) == 1
+
+
+def are_pages(size, upper, lower):
+    if not number(size) or size < 3 or type(upper) is not tuple or type(lower) is not tuple:
+        return False
+    for page in (upper, lower):
+        if not all(numbers(pair) and len(pair) == 2 and pair[1] < size and pair[1] - pair[0] > 1 for pair in page):
+            return False
+        if list(page) != sorted(set(page)) or (0, size - 1) in page:
+            return False
+    return not set(upper) & set(lower)
+
+
+def is_book(x):
+    if type(x) is not tuple or len(x) != 3 or not are_pages(*x):
+        return False
+    return not any(do_cross(one, other) for page in x[1:] for one, other in combinations(page, 2))
+
+
+# Deeds.
+
+def times_over(walk, edge):
+    """The steps of a walk over this edge."""
+    return [dart for dart in darts(walk) if set(dart) == set(edge)]
+
+
+def can_seat(walk, face):
+    return any(times_over(walk, own) for own in combinations(face, 2)) or any(walk.count(a) == 1 for a in face)
+
+
+def can_halve(walk, face, edge):
+    over = times_over(walk, edge)
+    if len(over) == 1:
+        return True
+    return can_seat(walk, face) if not over else len(over) == 2 and over[0] == over[1]
+
+
+def held_in_triples(graph):
+    """For each vertex the separators of three vertices that hold it."""
+    found = {a: [] for a in range(len(graph))}
+    for own in separators(graph, 3):
+        for a in own:
+            found[a].append(own)
+    return found

@@ -9,6 +9,7 @@ from random import Random
 from tests import made, slow
 from tests.doors import BASES, DoorCase
 from threefeet import errors
+from threefeet.yards import Yard
 
 ORDER = ("errors graphs cuts turns sides drawings forbidden discs parts walks stretches chains ways ownfeet two rounds"
          " strands homes spans trees pairs books edits judge texts yards desk").split()
@@ -58,7 +59,25 @@ INTERFACE = {
                " is_strand_walk(disc,cycle,members,foot,thing)",
     "homes": "disc_home(disc,p,q) is_disc_home(disc,p,q,thing) open_home(disc,p,q) closed_home(turns,edge) home(turns)"
              " home_by(turns,edge) main(graph) is_main(graph,thing) sure_word(graph)",
+    "spans": "is_thick(graph) is_round_over(graph,gone,thing) is_path_over(graph,a,b,thing) round_over(turns)"
+             " path_over(turns,a,b) round_without(turns,vertex) round_over_by(turns,face,edge,other)",
+    "trees": "is_tree(graph,thing) is_low_tree(graph,leaf,thing) degrees(size,tree) tree_path(tree,a,b)"
+             " walk_round(tree,vertex) tree(turns,leaf) disc_tree(disc,leaf)",
+    "pairs": "limbs(graph) torso(graph,limb) limbs_holding(graph,vertex) limb_pairs(graph) visits_let(graph)"
+             " spliced(walk,edge,closed,opened,stays) home_by_limbs(turns) is_home_by_limbs(graph,thing)",
+    "books": "is_book(thing) crossing(pairs) book_turns(book) book_of(turns,cycle) rows_of(book) book_of_rows(rows)"
+             " moved_on(book) swapped(book) read_back(book)",
+    "edits": "seat(turns,home,face) can_seat(home,face) halve(turns,home,face,edge) can_halve(home,face,edge)"
+             " cut_corner(turns,home,vertex) chord(turns,home,face,a,b) deed_done(turns,home,deed) all_done(turns,home,deeds)",
+    "judge": "is_claim(thing) is_so(claim) paths_apart(graph,a,b,many) claim_paper(claim) is_claim_paper(claim,thing)"
+             " shows(claim,thing) not_so(claims) words_so(claims) turned_by(claims,pair)",
+    "texts": "graph_text(graph) turns_text(turns) walk_text(walk) graph_read(text) turns_read(text) walk_read(text)",
+    "desk": "is_request(thing) replies(requests) last_turns(requests) last_walk(requests)",
 }
+
+# The methods of the class in yards.py and their parameters behind self.
+YARD = {"__init__": [], "lay": ["turns"], "do": ["deed"], "undo": [], "redo": [], "turns": [], "walk": [], "triples": [],
+        "deeds": []}
 
 FIVE = made.complete(5)
 STEPS = tuple(sorted(slow.edges(FIVE)))
@@ -71,10 +90,19 @@ VALUES = {"size": 5, "edges": ((0, 1), (2, 1)), "graph": SPOKES, "gone": (4,), "
           "faces": ((4, 1, 0),), "paper": ("five", (0, 1, 2, 3, 4), STEPS), "names": (5, 1, 2, 3, 4), "path": (0, 1, 2),
           "disc": (WHEEL, (0, 1, 2, 3)), "block": (0, 1, 2, 3), "v": 0, "u": 2, "thing": (0, 1, 4, 3, 2),
           "walk": (0, 1, 4, 0, 1, 2, 3), "arc": (0, 1, 2), "stretch": (0, 2), "y": 3, "back": (3,),
-          "links": (((3, 4), 3, 4),), "spared": (), "own": (0,), "kind": "ends", "p": 0, "q": 1, "foot": 0}
+          "links": (((3, 4), 3, 4),), "spared": (), "own": (0,), "kind": "ends", "p": 0, "q": 1, "foot": 0, "leaf": 0,
+          "tree": ((0, 1), (1, 2), (2, 3), (3, 4)), "limb": ((0, 1, 2, 3, 4), ()), "closed": (0, 5, 1, 6), "opened": (0, 7, 1),
+          "stays": True, "pairs": ((0, 2), (1, 3)), "book": (6, ((0, 2), (0, 3)), ((1, 5),)),
+          "rows": (((0, 1), (0, 0), (1, 0), (0, 0)), ((0, 0), (0, 1), (0, 0), (1, 0))), "home": ((0, 1, 4, 2, 3), ()),
+          "text": "walk 0", "deed": ("corner", 1), "deeds": (("corner", 1), ("seat", (0, 9, 1))), "claim": ("held", SPOKES),
+          "claims": (("held", SPOKES), ("flat", FIVE)), "pair": (0, 1), "requests": ("seat 0 1 3", "fly", "undo")}
 BELL = {"disc": (((1, 2, 3), (0, 4, 5, 2), (0, 1, 5, 6), (0, 6, 5, 4), (1, 3, 5), (1, 4, 3, 6, 2), (2, 5, 3)), (0, 2, 1)),
         "cycle": (0, 1, 2), "members": (3, 4, 5, 6), "vertex": 5, "block": (3, 4, 5, 6)}
-OWN = {"crowded": {"spared": (0, 1, 2)}, "own_way": {"spared": 2}, "next_way": {"u": 3, "spared": (0, 3)},
+CROWN = {"turns": ((1, 3, 5, 2), (0, 2, 4, 3), (0, 5, 4, 1), (0, 1, 4, 5), (1, 2, 5, 3), (0, 3, 4, 2)), "face": (0, 1, 2), "other": (1, 2)}
+OWN = {**dict.fromkeys(("round_over", "path_over", "round_without", "round_over_by"), CROWN),
+       **dict.fromkeys(("seat", "can_seat", "halve", "can_halve"), {"face": (4, 1, 0)}), "book_of": {"cycle": (0, 1, 4, 2, 3)},
+       "graph_read": {"text": "graph 3\n0 1 2"}, "turns_read": {"text": "turns 2\n1\n0"}, "walk_read": {"text": "walk 2 0"},
+       "crowded": {"spared": (0, 1, 2)}, "own_way": {"spared": 2}, "next_way": {"u": 3, "spared": (0, 3)},
        "round_by": {"other": (2, 3)},
        "led_anew": {"line": (0, 4, 2)}, "chain": {"u": 4}, "hung_at": {"members": (3, 4), "vertex": 4},
        "way_round": {"edge": (2, 3)},
@@ -149,12 +177,22 @@ class Interface(DoorCase):
             self.assertEqual(list(inspect.signature(function).parameters), parameters, name)
 
     def test_the_order_of_the_files(self):
+        found = {name[:-3] for name in os.listdir(package_folder()) if name.endswith(".py")}
+        self.assertEqual(found, {*ORDER, "__init__"})
         for place, file in enumerate(ORDER):
-            if os.path.exists(os.path.join(package_folder(), file + ".py")):
-                for other, name in drawn_from(file):
-                    self.assertIn(other, ORDER[:place], (file, name))
-                    own = function_of(other, name)
-                    self.assertEqual(own.__module__, "threefeet." + other)
+            for other, name in drawn_from(file):
+                self.assertIn(other, ORDER[:place], (file, name))
+                own = function_of(other, name)
+                self.assertEqual(own.__module__, "threefeet." + other)
+
+    def test_the_yard(self):
+        """Each of its methods stands in the class itself."""
+        self.assertEqual((Yard.__module__, Yard.__bases__), ("threefeet.yards", (object,)))
+        for name, parameters in YARD.items():
+            method = vars(Yard)[name]
+            self.assertTrue(inspect.isfunction(method), name)
+            self.assertEqual(list(inspect.signature(method).parameters), ["self"] + parameters)
+        self.assertEqual({name for name in vars(Yard) if not name.startswith("_")}, set(YARD) - {"__init__"})
 
     def test_importing_the_package_binds_no_name_of_a_file(self):
         import threefeet
@@ -174,6 +212,19 @@ class Calls(DoorCase):
             self.same(function(**dict(pairs[::-1])), due)
             self.same(function(values[0], **dict(pairs[1:])), due)
 
+    def test_the_yard_by_position_and_by_name(self):
+        told = []
+        for call in ((lambda yard: yard.lay(WHEEL), lambda yard: yard.do(("corner", 1))),
+                     (lambda yard: yard.lay(turns=WHEEL), lambda yard: yard.do(deed=("corner", 1)))):
+            yard = Yard()
+            for own in call:
+                self.assertIsNone(own(yard))
+            self.assertIsNone(yard.undo())
+            self.assertIsNone(yard.redo())
+            told.append(repr((yard.turns(), yard.walk(), yard.triples(), yard.deeds())))
+            self.assertEqual(told[-1], repr((yard.turns(), yard.walk(), yard.triples(), yard.deeds())))
+        self.assertEqual(told[0], told[1])
+
     def test_equal_calls_have_equal_answers(self):
         """Also behind other calls, in the other order too."""
         lot = list(listed())
@@ -190,7 +241,7 @@ class Calls(DoorCase):
         asked = (("graphs", "shortest_path", (0, len(graph) - 1, ())), ("cuts", "least_cut_between", (0, 1)),
                  ("drawings", "draw", ()), ("drawings", "join_row", ()), ("forbidden", "forbidden", ()),
                  ("forbidden", "bared", ()), ("homes", "main", ()), ("ownfeet", "own_feet", ((0,), ())),
-                 ("ownfeet", "crowded", ((0,), (0,))))
+                 ("ownfeet", "crowded", ((0,), (0,))), ("judge", "paths_apart", (0, 1, 2)), ("pairs", "limbs", ()))
         found = []
         for file, name, rest in asked:
             try:
@@ -214,7 +265,8 @@ class Calls(DoorCase):
                 function = function_of(file, name)
                 for thing in made.OTHERS:
                     got = function(*values_for(name, own)[:-1], thing)
-                    self.assertIs(type(got), str if name == "way_fault" else bool)
+                    if name != "shows" or got is not None:
+                        self.assertIs(type(got), str if name == "way_fault" else bool)
 
     def test_somewhat_beyond_the_bounds(self):
         own = made.Map(6, 44, 140, True)
@@ -251,3 +303,28 @@ class Calls(DoorCase):
         self.assertTrue(slow.is_home(small.graph, function_of("homes", "home")(small.turns)))
         self.assertTrue(slow.is_home(small.graph, function_of("homes", "main")(small.graph)[1]))
         self.assertEqual(function_of("homes", "sure_word")(made.complete(18)), "forbidden")
+
+    def test_stages_five_and_six_somewhat_beyond_the_bounds(self):
+        dice = Random(2)
+        drum = made.drum(9)
+        graph = slow.graph_in(drum)
+        self.assertTrue(slow.is_round_over(graph, (), function_of("spans", "round_over")(drum)))
+        self.assertTrue(slow.is_path_over(graph, 3, 11, function_of("spans", "path_over")(drum, 3, 11)))
+        over = tuple(range(44))
+        self.assertIs(function_of("spans", "is_round_over")(made.ring_graph(44), (), over), True)
+        turns = made.stacked(dice, 24)
+        self.assertTrue(slow.is_low_tree(slow.graph_in(turns), 5, function_of("trees", "tree")(turns, 5)))
+        own = made.Limbed(dice, 20)
+        self.same(function_of("pairs", "limbs")(slow.graph_in(own.turns)), own.limbs)
+        walk = function_of("pairs", "home_by_limbs")(own.turns)
+        self.assertTrue(slow.is_home_by_limbs(slow.graph_in(own.turns), own.limbs, walk))
+        book = made.random_book(dice, 44)
+        self.same(function_of("books", "book_of")(function_of("books", "book_turns")(book), over), (over, book))
+        self.same(function_of("books", "book_of_rows")(function_of("books", "rows_of")(book)), book)
+        home = function_of("homes", "home")(turns)
+        vertex = [a for a in range(24) if len(turns[a]) == 3][0]
+        new, led = function_of("edits", "cut_corner")(turns, home, vertex)
+        self.assertTrue(slow.is_home(slow.graph_in(new), led))
+        self.assertEqual(len(function_of("judge", "paths_apart")(slow.graph_in(made.drum(22)), 0, 35, 4)), 4)
+        self.assertIs(function_of("judge", "is_claim")(("held", made.ring_graph(60))), True)
+        self.assertEqual(function_of("texts", "graph_text")(made.ring_graph(44))[:8], "graph 44")

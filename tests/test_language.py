@@ -57,6 +57,15 @@ def functions(tree):
     return [node for node in ast.walk(tree) if isinstance(node, ast.FunctionDef)]
 
 
+def classes():
+    """The classes of the package by their names."""
+    return {node.name: node for _, _, tree in parsed() for node in tree.body if isinstance(node, ast.ClassDef)}
+
+
+def own_methods():
+    return {own.name for node in classes().values() for own in node.body if isinstance(own, ast.FunctionDef)}
+
+
 class Files(TestCase):
 
     def test_names_and_sizes(self):
@@ -136,6 +145,7 @@ class Code(TestCase):
                     self.assertIsInstance(node.exc, ast.Call)
 
     def test_builtins_and_methods(self):
+        methods = METHODS | own_methods()
         for name, _, tree in parsed():
             told = {node.name for node in ast.walk(tree) if isinstance(node, (ast.FunctionDef, ast.ClassDef))}
             told |= {own.name for node in tree.body if isinstance(node, ast.ImportFrom) for own in node.names}
@@ -143,7 +153,36 @@ class Code(TestCase):
                 if isinstance(node, ast.Call) and isinstance(node.func, ast.Name):
                     self.assertTrue(node.func.id in told or node.func.id in BUILTINS, (name, node.func.id))
                 if isinstance(node, ast.Call) and isinstance(node.func, ast.Attribute):
-                    self.assertIn(node.func.attr, METHODS, (name, node.lineno))
+                    self.assertIn(node.func.attr, methods, (name, node.lineno))
+
+    def test_classes(self):
+        """Errors and the Yard: no name is a method and an attribute, and none that of a builtin value's method."""
+        errors = {name for name, node in classes().items() if name != "Yard"}
+        for name, node in classes().items():
+            methods = {own.name for own in node.body if isinstance(own, ast.FunctionDef)}
+            held = {own.attr for own in ast.walk(node) if isinstance(own, ast.Attribute) and isinstance(own.ctx, ast.Store)}
+            self.assertFalse(methods & held, name)
+            self.assertFalse((methods | held) & METHODS, name)
+            self.assertFalse([own for own in held if own.startswith("__")], name)
+            for own in node.body:
+                self.assertIsInstance(own, (ast.FunctionDef, ast.Expr), name)
+        for name, _, tree in parsed():
+            for node in ast.walk(tree):
+                if isinstance(node, ast.ExceptHandler):
+                    kinds = node.type.elts if isinstance(node.type, ast.Tuple) else [node.type]
+                    self.assertLessEqual({own.id for own in kinds}, errors, (name, node.lineno))
+                if isinstance(node, ast.Try):
+                    self.assertFalse(node.finalbody)
+
+    def test_calls_with_stars(self):
+        """Behind a star stands a name, and then names; there are no keywords."""
+        for name, _, tree in parsed():
+            for node in ast.walk(tree):
+                if isinstance(node, ast.Call) and any(isinstance(own, ast.Starred) for own in node.args):
+                    self.assertFalse(node.keywords, (name, node.lineno))
+                    for own in node.args:
+                        own = own.value if isinstance(own, ast.Starred) else own
+                        self.assertIsInstance(own, ast.Name, (name, node.lineno))
 
     def test_sets_stand_where_they_may(self):
         """A set is measured, sorted or compared where it is written; none is kept in the package so far."""
