@@ -240,7 +240,7 @@ class Requests(DoorCase):
                           ("seat 0 1 x", False), ("halve 0 1 2 by 0 1", True), ("halve 0 1 by 0 1", False), ("halve 0 1 2 by 0", False),
                           ("halve 0 1 2 by 0 1 2", False), ("halve 0 1 2 0 1", False), ("halve by 0 1", False), ("halve 0 1 2 by by 0 1", False),
                           ("halve 0 1 3 by 1 1", True), ("chord 0 1 2 by 9 9", True), ("chord 0 1 2 3 by 2 0", True), ("chord 0 1 2 by 0 01", False),
-                          ("corner 0", True), ("corner", False), ("corner 0 1", False), ("corner -1", False), ("corner 999999999", True), ("corner 1000000000", False),
+                          ("corner 0", True), ("corner", False), ("corner 0 1", False), ("corner 0 1 2", False), ("fly 0 1 2", False), ("corner 0 1 2 by 0 1", False), ("corner -1", False), ("corner 999999999", True), ("corner 1000000000", False),
                           ("corner 00", False), ("corner \u0663", False), ("corner x", False), ("undo", True), ("redo", True), ("turns", True), ("walk", True), ("triples", True),
                           ("deeds", True), ("undo 1", False), ("Undo", False), ("turns turns", False), ("lay", True), ("lay\n", True), ("lay\nwhatever\n\n x", True),
                           ("lay x", False), ("lay\r\n", False), ("main", True), ("main\n\n", True), ("main 4", False), ("mainly", False), ("", False), ("   ", False), ("\n", False),

@@ -5,8 +5,10 @@ from random import Random
 
 from tests import made, slow
 from tests.doors import DoorCase
+from threefeet.books import rows_of
 from threefeet.judge import (
     claim_paper, is_claim, is_claim_paper, is_so, not_so, paths_apart, shows, turned_by, words_so)
+from threefeet.ownfeet import own_way
 
 WORDS = ("flat", "held", "apart", "own", "spare", "home", "book")
 TETRA, RING = made.complete(4), made.ring_graph(4)
@@ -308,6 +310,8 @@ class Wrong(DoorCase):
         self.check(("apart", RING, 0, 2, 3), False, (1, 3), ((3, 1), (1,), (0, 1, 3), (1, 2, 3), [1, 3], (True, 3), (1, 3, 4)))
         self.check(("apart", RING, 0, 2, 1), True, ((0, 1, 2),), (((0, 2),), ((2, 1, 0),), ((0, 1),), ([0, 1, 2],), [(0, 1, 2)],
                                                               ((0, 1, 2), (0, 3, 2)), ((False, 1, 2),), (0, 1, 2), ()))
+        # As many vertices as PATHS part nothing off: fewer must.
+        self.check(("apart", RING, 0, 2, 2), True, ((0, 1, 2), (0, 3, 2)), ((1, 3), (1,), (), ((0, 1, 2),), ((0, 1, 2), (0, 1, 2))))
         self.check(("own", TETRA, (0, 1), (0, 1)), False, ((2, 3),), (((3, 2),), ((2,),), (), [(2, 3)], ([2, 3],), ((2, 3), (2, 3)), (1,)))
         self.check(("own", TETRA, (0, 1), (0,)), True, (1,), ((0,), (True,), [1], (), (1, 1), (2,), ((2, 3),)))
         ask = ("spare", SQUARE, 0, (0, 1), 1)
@@ -441,6 +445,15 @@ class Bounds(DoorCase):
                 self.raises("TooMany()", function, (claim, claim, above, claim))
                 # A CLAIM that is not so, with the same word ahead.
                 self.raises("TooMany()", function, (("held", RING), ("book", 4, ((0, 2), (1, 3)), ()), claim, above))
+
+    def test_just_above_with_what_would_be_a_paper(self):
+        for (claim, above), paper in zip(bounded(), ((0, 2), made.ring_graph(17), ((0, *range(16, 8, -1)), tuple(range(10))), (),
+                                                     ((0, *range(9, 7, -1)), ()), rows_of((41, ((0, 38),), ())))):
+            for function in (shows, is_claim_paper):
+                self.raises("TooMany()", function, above, paper)
+        disc, v, edge, u, spared = bounded()[4][1][1:]
+        for paper in (own_way(disc, v, edge, u, u), ((((1,),),),)):
+            self.raises("TooMany()", shows, ("spare", disc, v, edge, u, (u,)), paper)
 
     def test_own_has_none(self):
         for n in (17, 40, 44):

@@ -120,11 +120,8 @@ def page_of(row):
 def book_of_rows(rows):
     """The BOOK with these rows."""
     up, down = rows
-    upper, lower = page_of(up), page_of(down)
-    if len(up) != len(down) or upper is None or lower is None:
-        raise CanNot()
-    book = (len(up), upper, lower)
-    if not is_book(book):
+    book = (len(up), page_of(up), page_of(down))
+    if len(up) != len(down) or not is_book(book):
         raise CanNot()
     return book
 

@@ -47,8 +47,8 @@ def is_graph_claim(word, graph, rest):
     if word == "own":
         line, spared = rest
         return is_path(graph, line) and is_set_within(spared, line)
-    walk = rest[0]
-    return graph != () and are_vertices(walk, len(graph)) and walk != ()
+    # Without vertices a GRAPH has no such tuple but ().
+    return are_vertices(rest[0], len(graph)) and rest[0] != ()
 
 
 def is_claim(thing):
@@ -192,7 +192,7 @@ def is_just(thing, due):
     if isinstance(due, tuple):
         return is_tuple_of(thing, len(due)) and all([is_just(own, part) for own, part in zip(thing, due)])
     if isinstance(due, str):
-        return isinstance(thing, str) and thing == due
+        return thing == due
     return is_number(thing) and thing == due
 
 

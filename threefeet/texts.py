@@ -10,7 +10,7 @@ DIGITS = "0123456789"
 
 def is_numeral(word):
     """Whether word is a NUMERAL."""
-    if len(word) > 9 or not word:
+    if len(word) > 9:
         return False
     for sign in word:
         if sign not in DIGITS:
